@@ -60,3 +60,31 @@ func (a Frac) Times(b Frac) Frac { return New(a.top.Times(b.top), a.low.Times(b.
 
 // Over returns a / b; b is not 0.
 func (a Frac) Over(b Frac) Frac { return New(a.top.Times(b.low), a.low.Times(b.top)) }
+
+// Nums returns the fractions as numbers, and whether all of them are valid.
+func Nums(l []Frac) ([]api.Num, bool) {
+	out := make([]api.Num, len(l))
+	for i, a := range l {
+		x, valid := a.Num()
+		if !valid {
+			return nil, false
+		}
+		out[i] = x
+	}
+	return out, true
+}
+
+// Common returns the tops of valid numbers over their least common
+// denominator, and that denominator.
+func Common(l []api.Num) ([]whole.Int, whole.Int) {
+	low := whole.Of(1)
+	for _, a := range l {
+		x := whole.Of(a.Low)
+		low = low.Quo(low.Gcd(x)).Times(x)
+	}
+	tops := make([]whole.Int, len(l))
+	for i, a := range l {
+		tops[i] = whole.Of(a.Top).Times(low.Quo(whole.Of(a.Low)))
+	}
+	return tops, low
+}

@@ -65,3 +65,29 @@ func TestLimits(t *testing.T) {
 	}
 	checkNum(t, "back", square.Over(big), api.MaxNum, api.MaxNum-1)
 }
+
+func TestNums(t *testing.T) {
+	l, valid := Nums([]Frac{of(6, 4), of(0, 1), of(-1, 3)})
+	want := []api.Num{{Top: 3, Low: 2}, {Low: 1}, {Top: -1, Low: 3}}
+	if !valid || len(l) != 3 || l[0] != want[0] || l[1] != want[1] || l[2] != want[2] {
+		t.Errorf("%v, %t", l, valid)
+	}
+	if l, valid := Nums([]Frac{of(1, 2), of(api.MaxNum+1, 1)}); valid || l != nil {
+		t.Errorf("%v, %t", l, valid)
+	}
+}
+
+func TestCommon(t *testing.T) {
+	tops, low := Common([]api.Num{{Top: 1, Low: 4}, {Top: -5, Low: 6}, {Top: 7, Low: 1}})
+	if len(tops) != 3 || !tops[0].Equal(whole.Of(3)) || !tops[1].Equal(whole.Of(-10)) || !tops[2].Equal(whole.Of(84)) || !low.Equal(whole.Of(12)) {
+		t.Errorf("%v, %v", tops, low)
+	}
+	if tops, low := Common(nil); len(tops) != 0 || !low.Equal(whole.Of(1)) {
+		t.Errorf("%v, %v", tops, low)
+	}
+	long, short := api.Num{Top: 1, Low: api.MaxNum}, api.Num{Top: 1, Low: api.MaxNum - 1}
+	tops, low = Common([]api.Num{long, short})
+	if !tops[0].Equal(whole.Of(short.Low)) || !tops[1].Equal(whole.Of(long.Low)) || !low.Equal(tops[0].Times(tops[1])) {
+		t.Errorf("%v, %v", tops, low)
+	}
+}

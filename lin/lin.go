@@ -5,7 +5,7 @@ import (
 	"floodmark/api"
 	"floodmark/frac"
 	"floodmark/num"
-	"floodmark/whole"
+	"floodmark/rows"
 )
 
 // ValidPoint reports whether x is a valid point in n variables.
@@ -44,7 +44,7 @@ func Primitive(n int, f api.Form) (api.Form, api.Errno) {
 	if !ValidForm(n, f) {
 		return api.Form{}, api.ErrArg
 	}
-	g, _ := rowOf(f).primitive().form()
+	g, _ := rows.Of(f).Primitive().Form()
 	return g, api.OK
 }
 
@@ -78,13 +78,13 @@ func Echelon(n int, l []api.Form) ([]api.Form, bool, api.Errno) {
 	if !validForms(n, l) {
 		return nil, false, api.ErrArg
 	}
-	t := tableOf(n, l)
-	if !t.solvable() {
+	s := systemOf(n, l)
+	if !s.Solvable() {
 		return nil, false, api.OK
 	}
 	var out []api.Form
-	for _, c := range t.leading() {
-		f, fits := t.rows[c].form()
+	for _, r := range s.Rows() {
+		f, fits := r.Form()
 		if !fits {
 			return nil, false, api.ErrFull
 		}
@@ -99,16 +99,17 @@ func Solve(n int, l []api.Form) ([]api.Num, bool, api.Errno) {
 	if !validForms(n, l) {
 		return nil, false, api.ErrArg
 	}
-	t := tableOf(n, l)
-	if !t.solvable() {
+	s := systemOf(n, l)
+	if !s.Solvable() {
 		return nil, false, api.OK
 	}
 	x := make([]api.Num, n)
 	for i := range x {
 		x[i] = api.Num{Low: 1}
 	}
-	for _, c := range t.leading() {
-		a, fits := frac.New(t.rows[c][n].Neg(), t.rows[c][c]).Num()
+	for _, c := range s.Leading() {
+		r := s.Row(c)
+		a, fits := frac.New(r.Add().Neg(), r[c]).Num()
 		if !fits {
 			return nil, false, api.ErrFull
 		}
@@ -123,8 +124,8 @@ func Rank(n int, l []api.Form) (int, api.Errno) {
 	if !validForms(n, l) {
 		return 0, api.ErrArg
 	}
-	t := tableOf(n, l)
-	return len(t.leading()), api.OK
+	s := systemOf(n, l)
+	return len(s.Leading()), api.OK
 }
 
 // Same reports whether the equations l and the equations m have the same
@@ -133,8 +134,8 @@ func Same(n int, l, m []api.Form) (bool, api.Errno) {
 	if !validForms(n, l) || !validForms(n, m) {
 		return false, api.ErrArg
 	}
-	t, u := tableOf(n, l), tableOf(n, m)
-	return t.same(&u), api.OK
+	s, t := systemOf(n, l), systemOf(n, m)
+	return s.Same(&t), api.OK
 }
 
 func validDim(n int) bool { return 0 <= n && n <= api.MaxDim }
@@ -171,19 +172,19 @@ func at(f api.Form, i int) api.Num {
 	return api.Num{Top: f.Coef[i], Low: 1}
 }
 
+func systemOf(n int, l []api.Form) rows.System {
+	var list []rows.Row
+	for _, f := range l {
+		list = append(list, rows.Of(f))
+	}
+	return rows.SystemOf(n, list)
+}
+
 // overOne writes the coefficients and Add of a form over their least common
 // denominator.
 func overOne(sums []api.Num) (api.Form, int, api.Errno) {
-	low := whole.Of(1)
-	for _, a := range sums {
-		x := whole.Of(a.Low)
-		low = low.Quo(low.Gcd(x)).Times(x)
-	}
-	r := make(row, len(sums))
-	for i, a := range sums {
-		r[i] = whole.Of(a.Top).Times(low.Quo(whole.Of(a.Low)))
-	}
-	g, fits := r.form()
+	tops, low := frac.Common(sums)
+	g, fits := rows.Row(tops).Form()
 	k, fitsToo := low.Within(api.MaxNum)
 	if !fits || !fitsToo {
 		return api.Form{}, 0, api.ErrFull

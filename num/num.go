@@ -122,11 +122,11 @@ func Parse(text string) (api.Num, api.Errno) {
 	if len(text) > maxText {
 		return api.Num{}, api.ErrFull
 	}
-	above := decimal(top)
+	above := whole.Decimal(top)
 	if isNegative {
 		above = above.Neg()
 	}
-	return limited(frac.New(above, decimal(low)))
+	return limited(frac.New(above, whole.Decimal(low)))
 }
 
 // apply returns the result of an operation on two numbers.
@@ -195,13 +195,4 @@ func simplest(a, b api.Num) api.Num {
 
 func isDigits(text string) bool {
 	return text != "" && strings.Trim(text, "0123456789") == ""
-}
-
-// decimal returns the integer with the given decimal digits.
-func decimal(text string) whole.Int {
-	var n whole.Int
-	for i := range len(text) {
-		n = n.Times(whole.Of(10)).Plus(whole.Of(int(text[i] - '0')))
-	}
-	return n
 }

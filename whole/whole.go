@@ -24,6 +24,23 @@ func Of(n int) Int {
 	return signed(n < 0, natural(size(n)))
 }
 
+// Decimal returns the integer with the given decimal digits.
+func Decimal(text string) Int {
+	const most = 18 // 10^18 is small
+	var n Int
+	for len(text) > 0 {
+		size := min(len(text), most)
+		part, scale := 0, 1
+		for i := range size {
+			part = 10*part + int(text[i]-'0')
+			scale *= 10
+		}
+		n = n.Times(Of(scale)).Plus(Of(part))
+		text = text[size:]
+	}
+	return n
+}
+
 // signed returns the integer with the given absolute value.
 func signed(negative bool, d digits) Int {
 	small := 1

@@ -152,3 +152,13 @@ func TestOf(t *testing.T) {
 		}
 	}
 }
+
+func TestDecimal(t *testing.T) {
+	for _, text := range []string{"0", "7", "000", "00012", "999999999999999999", "1000000000000000000", "123456789012345678901234567890123456789012345678901234567890",
+		"100000000000000000000000000000000000000000000000000001", "4611686018427387904"} {
+		want, _ := new(big.Int).SetString(text, 10)
+		if toBig(Decimal(text)).Cmp(want) != 0 {
+			t.Errorf("Decimal of %s: %v", text, toBig(Decimal(text)))
+		}
+	}
+}
