@@ -18,6 +18,7 @@ type refusal api.Errno
 type reader struct {
 	names []string
 	rest  string
+	full  bool // an integer of the text exceeds MaxNum
 }
 
 // Parse returns the polyhedron that the text denotes, as it is written.
@@ -41,7 +42,7 @@ func conditions(names []string, text string) []simplex.Cond {
 	if strings.Trim(text, " ") == "true" {
 		return nil
 	}
-	r := reader{names, text}
+	r := reader{names: names, rest: text}
 	list := []simplex.Cond{r.condition()}
 	for r.accept(",") {
 		list = append(list, r.condition())
@@ -50,11 +51,14 @@ func conditions(names []string, text string) []simplex.Cond {
 	if r.rest != "" {
 		panic(refusal(api.ErrForm))
 	}
+	if r.full {
+		panic(refusal(api.ErrFull))
+	}
 	return list
 }
 
-// polyOf checks the limits only of what was read in the end, because the
-// terms of a variable may exceed them until they are added up.
+// polyOf checks the limits only of the sums of the terms, because these may
+// exceed them on the way.
 func polyOf(n int, l []simplex.Cond) api.Poly {
 	p := api.Poly{Dim: n}
 	for _, c := range l {
@@ -101,13 +105,24 @@ func (r *reader) term(sum rows.Row, negative bool) {
 	factor := whole.Of(1)
 	digits := r.take(isDigit)
 	if digits != "" {
-		factor = whole.Decimal(digits)
+		factor = r.integer(digits)
 	}
 	if negative {
 		factor = factor.Neg()
 	}
 	place := r.place(digits != "")
 	sum[place] = sum[place].Plus(factor)
+}
+
+// integer returns the integer with these digits. That it is too large is only
+// noted, because the rest of the text may still be of a wrong form, which
+// comes first.
+func (r *reader) integer(digits string) whole.Int {
+	n := whole.Decimal(digits)
+	if _, fits := n.Within(api.MaxNum); !fits {
+		r.full = true
+	}
+	return n
 }
 
 // place reads the name of a term and returns its place in a row. A term

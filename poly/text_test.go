@@ -108,7 +108,10 @@ func TestParse(t *testing.T) {
 		{"x >= " + strings.Repeat("0", 5000) + "3", []api.Cond{least(-3, 1, 0)}},
 		{strings.Repeat(" ", api.MaxText-4) + "true", nil},
 		{"x>=0" + strings.Repeat(" ", api.MaxText-4), []api.Cond{least(0, 1, 0)}},
-		{strings.Repeat("9", 5000) + " x >= " + strings.Repeat("9", 4999) + "8 x", []api.Cond{least(0, 1, 0)}},
+		{"1152921504606846976 x >= 1152921504606846976 x", []api.Cond{least(0, 0, 0)}},
+		{"0001152921504606846976 x = -x - x + x + x", []api.Cond{equal(0, most, 0)}},
+		{"1152921504606846976 + 1152921504606846976 + x <= 1152921504606846976 + 1152921504606846976", []api.Cond{least(0, -1, 0)}},
+		{"-1152921504606846976 - 1 = -1", []api.Cond{equal(-most, 0, 0)}},
 	} {
 		if p, e := Parse(names, c.text); e != api.OK || !Identical(p, polyhedron(2, c.want...)) {
 			t.Errorf("Parse of %.40q: %v, %d", c.text, p, e)
@@ -116,6 +119,9 @@ func TestParse(t *testing.T) {
 	}
 	if p, e := Parse(nil, "0 = 1"); !Identical(p, polyhedron(0, equal(-1))) || e != api.OK {
 		t.Errorf("without variables: %v, %d", p, e)
+	}
+	if p, e := Parse(nil, "1152921504606846976 = 1152921504606846975"); !Identical(p, polyhedron(0, equal(1))) || e != api.OK {
+		t.Errorf("the greatest integer without variables: %v, %d", p, e)
 	}
 	if p, e := Parse([]string{"true", "xy", "x1", "x"}, "true>=1,xy=x1+2x"); !Identical(p, polyhedron(4, least(-1, 1, 0, 0, 0), equal(0, 0, 1, -1, -2))) || e != api.OK {
 		t.Errorf("names like others: %v, %d", p, e)
@@ -151,17 +157,24 @@ func TestParseErrors(t *testing.T) {
 		"x y >= 0", "2 3 >= 0", "2 3x >= 0", "+x >= 0", "x + -y >= 0", "--x >= 0", "x - >= 0", "x > = 0", "x => 0", "x == 0", "x < 0", "x > 0", "x >= 0 >= 0", "x = y = 0",
 		"x >= 0;", "2*x >= 0", "x/2 >= 0", "1.5 >= x", "(x) >= 0", "X >= 0", "xx >= 0", "x1 >= 0", "x\t>= 0", "x\n>= 0", "x >= 0\n", "x\u00a0>= 0", "x >= \u0663", "\x00",
 		"True", "true true", "true,", "true, x >= 0", "x >= 0, true", "truex", "tr ue", "true >= 0", "x >= 0 true", "x ≥ 0", "x >= -", "- >= 0", "x >= 1e3", "0x10 >= 0",
-		huge + " x >= ", huge + " >= 0, x", strings.Repeat("x >= 0, ", 200), strings.Repeat(" ", api.MaxText),
+		huge + " x >= ", huge + " >= 0, x", huge, huge + " = " + huge + " =", huge + " z >= 0", "0 >= 0, " + huge + " " + huge + " >= 0",
+		huge + " >= " + huge + ", true", huge + " >= 0" + strings.Repeat(", y >= 1", 120) + ",", strings.Repeat("x >= 0, ", 200), strings.Repeat(" ", api.MaxText),
 	} {
 		refused(names, text, api.ErrForm)
 	}
 	for _, text := range []string{
 		"x >= 1152921504606846977", "1152921504606846977 x >= 0", "-1152921504606846977 x = 0", "x <= -1152921504606846977", huge + " x >= 0", "x = " + huge,
 		"1152921504606846976 x + x >= 0", "1152921504606846976 x >= -x", "0 >= -9223372036854775808", "18446744073709551616 = 0", "x >= 0, y = " + huge,
+		huge + " = " + huge, "1152921504606846977 x >= 1152921504606846977 x", "1152921504606846977 >= 1152921504606846977", "x >= 1152921504606846977 - 1152921504606846977",
+		"1152921504606846977 y - 1152921504606846977 y = 0", "2 <= 1152921504606846977 - 1", "x >= -1152921504606846977 + 1", "0001152921504606846977 x = 3x + 1152921504606846974 x",
+		huge + " x >= 0 x + " + huge + " x, x >= 0", "x >= 0, x >= 0 + " + huge + " - " + huge, strings.Repeat("9", 5000) + " x >= " + strings.Repeat("9", 4999) + "8 x",
+		huge + " >= " + huge + strings.Repeat(", y >= 1", 120),
 		"x >= 0" + strings.Repeat(", y >= 1", 120), "x >= 0" + strings.Repeat(", y >= 1", 400), strings.Repeat(" ", api.MaxText) + "?", strings.Repeat("9", api.MaxText-2) + "=x",
 	} {
 		refused(names, text, api.ErrFull)
 	}
+	refused(nil, "99999999999999999999=99999999999999999998", api.ErrFull)
+	refused(nil, "99999999999999999999=99999999999999999998 x", api.ErrForm)
 	for _, l := range append(badNames, strings.Split("abcdefghi", "")) {
 		refused(l, "true", api.ErrForm)
 		refused(l, strings.Repeat(" ", api.MaxText+1), api.ErrForm)
