@@ -21,6 +21,13 @@ func Of(f api.Form) Row {
 	return append(r, whole.Of(f.Add))
 }
 
+// Unit returns the row of n integers which is 1 at place i and 0 elsewhere.
+func Unit(n, i int) Row {
+	r := make(Row, n)
+	r[i] = whole.Of(1)
+	return r
+}
+
 // Form returns the row as a form, and whether that is valid.
 func (r Row) Form() (api.Form, bool) {
 	list, fits := Ints(r)

@@ -25,6 +25,7 @@ func check(t *testing.T, name string, got, want Row) {
 func TestRows(t *testing.T) {
 	r := row(4, -6, 0, 10)
 	check(t, "Of", Of(api.Form{Coef: []int{4, -6, 0}, Add: 10}), r)
+	check(t, "Unit", Unit(3, 1), row(0, 1, 0))
 	check(t, "Primitive", r.Primitive(), row(2, -3, 0, 5))
 	check(t, "Primitive of 0", row(0, 0).Primitive(), row(0, 0))
 	check(t, "Primitive of -3", row(0, -3).Primitive(), row(0, -1))

@@ -2,7 +2,8 @@ package rows
 
 import "floodmark/api"
 
-// System is a system of equations in n variables, at most MaxDim. The row at
+// System is a system of equations in n variables, at most MaxDim + 1, because
+// polyhedra in MaxDim variables are cones in one variable more. The row at
 // place c has its first integer that is not 0 there: c is its leading
 // variable, or n for an equation that only consists of Add and has no
 // solution. Places without such a row are nil. The rows are reduced: each one
@@ -10,7 +11,7 @@ import "floodmark/api"
 // there. Equal systems with a solution have equal rows.
 type System struct {
 	n    int
-	rows [api.MaxDim + 1]Row
+	rows [api.MaxDim + 2]Row
 }
 
 // SystemOf returns the system of the equations l.

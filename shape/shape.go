@@ -1,4 +1,7 @@
-package poly
+// Package shape finds the canonical form of polyhedra with integers of any
+// size, so that the layers check the limits of polyhedra only for their
+// results.
+package shape
 
 import (
 	"cmp"
@@ -8,12 +11,11 @@ import (
 	"floodmark/frac"
 	"floodmark/rows"
 	"floodmark/simplex"
-	"floodmark/whole"
 )
 
-// shape is a polyhedron with points: all equations that its points satisfy,
+// Shape is a polyhedron with points: all equations that its points satisfy,
 // and reduced inequalities. At the inner point no inequality has the value 0.
-type shape struct {
+type Shape struct {
 	n            int
 	equations    rows.System
 	inequalities []rows.Row
@@ -30,19 +32,31 @@ func (l list) sort() {
 	})
 }
 
-// canon returns the canonical form of the polyhedron of the conditions.
-func canon(n int, conds []simplex.Cond) (api.Poly, api.Errno) {
-	s, is := shapeOf(n, conds)
+// Canon returns the canonical form of the polyhedron of the conditions on n
+// variables, or ErrFull if that is not valid.
+func Canon(n int, conds []simplex.Cond) (api.Poly, api.Errno) {
+	s, is := Of(n, conds)
 	if !is {
-		return none(n), api.OK
+		return None(n), api.OK
 	}
-	equations, fits := listOf(s.equations.Rows(), true)
-	needed, fitsToo := listOf(s.needed(), false)
-	if !fits || !fitsToo || len(equations)+len(needed) > api.MaxConds {
+	return Poly(n, s.Equations(), s.Needed())
+}
+
+// Poly returns the polyhedron of the equations, which are in echelon form, and
+// of the inequalities, which it sorts; or ErrFull if it is not valid.
+func Poly(n int, equations, inequalities []rows.Row) (api.Poly, api.Errno) {
+	first, fits := listOf(equations, true)
+	second, fitsToo := listOf(inequalities, false)
+	if !fits || !fitsToo || len(first)+len(second) > api.MaxConds {
 		return api.Poly{}, api.ErrFull
 	}
-	needed.sort()
-	return api.Poly{Dim: n, Conds: append(equations, needed...)}, api.OK
+	second.sort()
+	return api.Poly{Dim: n, Conds: append(first, second...)}, api.OK
+}
+
+// None returns the canonical form of the empty polyhedron.
+func None(n int) api.Poly {
+	return api.Poly{Dim: n, Conds: []api.Cond{{Form: api.Form{Coef: make([]int, n), Add: -1}}}}
 }
 
 // listOf returns the rows as conditions, and whether they are valid.
@@ -58,9 +72,9 @@ func listOf(l []rows.Row, eq bool) (list, bool) {
 	return out, true
 }
 
-// shapeOf returns the shape of the polyhedron of the conditions, and whether
-// it has points.
-func shapeOf(n int, conds []simplex.Cond) (shape, bool) {
+// Of returns the shape of the polyhedron of the conditions on n variables, and
+// whether it has points.
+func Of(n int, conds []simplex.Cond) (Shape, bool) {
 	var equations, others []rows.Row
 	for _, c := range conds {
 		if c.Eq {
@@ -70,9 +84,9 @@ func shapeOf(n int, conds []simplex.Cond) (shape, bool) {
 		}
 	}
 	for {
-		s := shape{n: n, equations: rows.SystemOf(n, equations)}
+		s := Shape{n: n, equations: rows.SystemOf(n, equations)}
 		if !s.equations.Solvable() || !s.take(others) {
-			return shape{}, false
+			return Shape{}, false
 		}
 		tight := s.center()
 		if len(tight) == 0 {
@@ -83,9 +97,18 @@ func shapeOf(n int, conds []simplex.Cond) (shape, bool) {
 	}
 }
 
+// Rank returns the number of dimensions.
+func (s *Shape) Rank() int { return s.n - len(s.equations.Leading()) }
+
+// Equations returns the equations in echelon form.
+func (s *Shape) Equations() []rows.Row { return s.equations.Rows() }
+
+// Inner returns the inner point.
+func (s *Shape) Inner() []frac.Frac { return s.inner }
+
 // take reduces inequalities and takes those that are not constant. It reports
 // whether all constant ones are satisfied.
-func (s *shape) take(l []rows.Row) bool {
+func (s *Shape) take(l []rows.Row) bool {
 	for _, r := range l {
 		r = s.equations.Reduce(r)
 		switch {
@@ -103,9 +126,8 @@ func (s *shape) take(l []rows.Row) bool {
 // center sets the inner point. If there is none, it returns inequalities that
 // all points satisfy with 0. For that, it looks for the greatest value of one
 // more variable that is at most the value of each inequality.
-func (s *shape) center() []rows.Row {
-	least := make(rows.Row, s.n+2)
-	least[s.n] = whole.Of(1)
+func (s *Shape) center() []rows.Row {
+	least := rows.Unit(s.n+2, s.n)
 	var conds []simplex.Cond
 	for _, r := range s.inequalities {
 		conds = append(conds, simplex.Cond{Row: s.wider(r).Plus(least.Neg())})
@@ -131,16 +153,16 @@ func (s *shape) center() []rows.Row {
 }
 
 // wider returns the row with one variable more, which has the coefficient 0.
-func (s *shape) wider(r rows.Row) rows.Row {
+func (s *Shape) wider(r rows.Row) rows.Row {
 	out := make(rows.Row, s.n+2)
 	copy(out, r[:s.n])
 	out[s.n+1] = r.Add()
 	return out
 }
 
-// needed returns the inequalities without which there would be more points. It
+// Needed returns the inequalities without which there would be more points. It
 // tests each one against the others that are left.
-func (s *shape) needed() []rows.Row {
+func (s *Shape) Needed() []rows.Row {
 	var conds []simplex.Cond
 	for _, r := range s.inequalities {
 		conds = append(conds, simplex.Cond{Row: r})
