@@ -1,11 +1,13 @@
 package cone
 
 import (
+	"reflect"
 	"slices"
 	"testing"
 
 	"floodmark/api"
 	"floodmark/rows"
+	"floodmark/shape"
 	"floodmark/simplex"
 	"floodmark/whole"
 )
@@ -48,6 +50,8 @@ func TestOf(t *testing.T) {
 		{1, nil, Cone{Rays: []rows.Row{row(0, 1)}, Lines: []rows.Row{row(1, 0)}}},
 		{1, []simplex.Cond{least(2, -1), least(-1, 3)}, Cone{Rays: []rows.Row{row(1, 2), row(3, 1)}}},
 		{1, []simplex.Cond{least(1, -2), least(-1, 1)}, Cone{}},
+		{2, []simplex.Cond{least(1, 0, -2), least(-1, 0, 1), least(0, 1, 0)}, Cone{}}, // not even the ray (0, 1)
+		{2, []simplex.Cond{equal(0, 0, 1)}, Cone{}},
 		{2, []simplex.Cond{least(1, 0, 0), least(0, 1, 0), least(1, 1, -2)}, Cone{Rays: []rows.Row{row(0, 2, 1), row(2, 0, 1), row(0, 1, 0), row(1, 0, 0)}}},
 		{2, []simplex.Cond{least(2, 2, -3)}, Cone{Rays: []rows.Row{row(0, 3, 2), row(0, 1, 0)}, Lines: []rows.Row{row(1, -1, 0)}}},
 		{2, []simplex.Cond{least(0, 1, 0), equal(1, 1, -3), least(1, 0, 0), equal(2, 2, -6)}, Cone{Rays: []rows.Row{row(0, 3, 1), row(3, 0, 1)}}},
@@ -128,6 +132,91 @@ func TestPoly(t *testing.T) {
 	}
 }
 
+func TestMerge(t *testing.T) {
+	a := Cone{Rays: []rows.Row{row(0, 1)}, Lines: []rows.Row{row(1, 0)}}
+	b := Cone{Rays: []rows.Row{row(3, 1), row(2, 0)}}
+	check(t, "Merge", Merge(a, Cone{}, b), Cone{Rays: []rows.Row{row(0, 1), row(3, 1), row(2, 0)}, Lines: []rows.Row{row(1, 0)}})
+	check(t, "Merge of nothing", Merge(), Cone{})
+	check(t, "Map", Merge(a, b).Map(rows.Row.Neg), Cone{Rays: []rows.Row{row(0, -1), row(-3, -1), row(-2, 0)}, Lines: []rows.Row{row(-1, 0)}})
+}
+
+// All conditions, and those of the same points.
+func TestConds(t *testing.T) {
+	c := Cone{Rays: []rows.Row{row(0, 0, 1), row(4, 4, 2), row(1, 1, 1), row(3, 3, 0)}}
+	l, fits := c.Conds(2)
+	d, fitsToo := Of(2, l)
+	if !fits || !fitsToo || len(l) < 2 || !l[0].Eq || !l[0].Row.Equal(row(1, -1, 0)) {
+		t.Errorf("%v, %t", l, fits)
+	}
+	check(t, "Of the conditions", d, Cone{Rays: []rows.Row{row(0, 0, 1), row(1, 1, 0)}})
+}
+
+func TestSum(t *testing.T) {
+	square := Cone{Rays: []rows.Row{row(0, 0, 1), row(1, 0, 1), row(0, 1, 1), row(1, 1, 1)}}
+	turned := Cone{Rays: []rows.Row{row(1, 0, 2), row(0, 1, 2), row(-1, 0, 2), row(0, -1, 2)}}
+	p, e := square.Sum(2, turned)
+	want := api.Poly{Dim: 2}
+	for _, l := range [][3]int{{-2, -2, 5}, {-2, 0, 3}, {-2, 2, 3}, {0, -2, 3}, {0, 2, 1}, {2, -2, 3}, {2, 0, 1}, {2, 2, 1}} {
+		want.Conds = append(want.Conds, api.Cond{Form: api.Form{Coef: l[:2], Add: l[2]}})
+	}
+	if e != api.OK || !reflect.DeepEqual(p, want) {
+		t.Errorf("%v, %d; not %v", p, e, want)
+	}
+	// Both numbers of an equation and of its inequalities are added up, and
+	// what divides the sums is left out.
+	up := Cone{Rays: []rows.Row{row(0, 1, 2), row(0, 1, 0)}}
+	p, e = up.Sum(2, up)
+	want = api.Poly{Dim: 2, Conds: []api.Cond{{Form: api.Form{Coef: []int{1, 0}}, Eq: true}, {Form: api.Form{Coef: []int{0, 1}, Add: -1}}}}
+	if e != api.OK || !reflect.DeepEqual(p, want) {
+		t.Errorf("%v, %d; not %v", p, e, want)
+	}
+	for _, l := range [][2]Cone{{{}, square}, {square, {}}, {{Rays: []rows.Row{row(1, 0, 0)}}, square}} {
+		if p, e := l[0].Sum(2, l[1]); e != api.OK || !reflect.DeepEqual(p, shape.None(2)) {
+			t.Errorf("Sum with an empty polyhedron: %v, %d", p, e)
+		}
+	}
+}
+
+// In all variables that polyhedra may have, with a line in each of them.
+func TestSumOfLines(t *testing.T) {
+	const n = api.MaxDim
+	for lines := range n + 1 {
+		c := Cone{Rays: []rows.Row{rows.Unit(n+1, n)}}
+		for i := range lines {
+			c.Lines = append(c.Lines, rows.Unit(n+1, i))
+		}
+		if p, e := c.Sum(n, c); e != api.OK || len(p.Conds) != n-lines {
+			t.Errorf("%d lines: %v, %d", lines, p, e)
+		}
+	}
+}
+
+func TestPoints(t *testing.T) {
+	x := []api.Num{{Top: 1, Low: 2}, {Top: -2, Low: 3}}
+	if r := Row(x); !r.Equal(row(3, -4, 6)) {
+		t.Errorf("%v", r)
+	}
+	for i, a := range Point(row(6, -8, 12)) {
+		if b, fits := a.Num(); b != x[i] || !fits {
+			t.Errorf("%v", b)
+		}
+	}
+	if r, l := Row(nil), Point(row(3)); !r.Equal(row(1)) || len(l) != 0 {
+		t.Errorf("%v, %v", r, l)
+	}
+}
+
+// Conditions that follow from those before them cost nothing later.
+func TestNeedless(t *testing.T) {
+	d := double{n: 2, lines: []rows.Row{row(1, 0), row(0, 1)}}
+	for i, c := range []struct{ x, y, done int }{{1, 0, 1}, {2, 0, 1}, {0, 1, 2}, {1, 1, 2}, {3, 0, 2}, {1, -1, 3}, {2, -1, 3}, {1, -2, 4}} {
+		if !d.add(least(c.x, c.y)) || d.done != c.done {
+			t.Errorf("condition %d: %d conditions count", i, d.done)
+		}
+	}
+	check(t, "cone", d.cone(), Cone{Rays: []rows.Row{row(1, 0), row(2, 1)}})
+}
+
 func TestShares(t *testing.T) {
 	c := Cone{Rays: []rows.Row{row(0, 0, 1), row(2, 0, 1)}, Lines: []rows.Row{row(0, 3, 0)}}
 	l, is := c.Shares(2, row(1, -2, 1))
@@ -146,14 +235,14 @@ func TestShares(t *testing.T) {
 	}
 }
 
-// The sets of zeros have more than one word, and a bit for each condition.
+// The sets of zeros have as many words as they need.
 func TestZeros(t *testing.T) {
-	const conds = 130
-	x, y := newZeros(conds), firstZeros(conds, 100)
-	for i := 0; i < conds; i += 3 {
+	var x, none zeros
+	y := firstZeros(100)
+	for i := 0; i < 130; i += 3 {
 		x.put(i)
 	}
-	if n := x.shared(y); n != 34 {
+	if n := x.shared(y); n != 34 || y.shared(x) != n {
 		t.Errorf("%d shared conditions", n)
 	}
 	both := x.and(y)
@@ -166,6 +255,12 @@ func TestZeros(t *testing.T) {
 		if z.covers(x, y) {
 			t.Errorf("without condition %d", i)
 		}
+	}
+	if !none.covers(x, none) || !none.covers(none, y) || none.covers(x, y) || none.shared(x) != 0 || len(x.and(none)) != 0 {
+		t.Error("the empty set")
+	}
+	if first := x[:1]; first.covers(x, y) || !first.covers(x, firstZeros(64)) || first.covers(x, firstZeros(67)) {
+		t.Error("a set with fewer words")
 	}
 }
 

@@ -9,10 +9,12 @@ import (
 
 // most is the number of rays above which the method gives up. What the layers
 // promise needs less: 24 conditions on 4 variables, and that on the height,
-// have at most 275 rays, and 275 points in 3 variables at most 546 conditions.
+// have at most 275 rays, 275 points in 3 variables at most 546 conditions, and
+// polyhedra with 25 generators in 4 variables at most 462 forms of their sum.
 const most = 1000
 
-// ray is a ray with the set of the conditions that have the value 0 for it.
+// ray is a ray with the set of the conditions that have the value 0 for it,
+// of those that count.
 type ray struct {
 	row   rows.Row
 	zeros zeros
@@ -22,8 +24,7 @@ type ray struct {
 // lines and rays, of which none can be left out.
 type double struct {
 	n     int // variables
-	conds int // conditions, all of them
-	done  int // conditions so far
+	done  int // conditions so far that did not follow from those before them
 	lines []rows.Row
 	rays  []ray
 }
@@ -32,7 +33,7 @@ type double struct {
 // are at least 0, or 0 for equations. (An integer of a row beyond n does not
 // count.) It returns false if there are too many rays on the way.
 func generated(n int, conds []simplex.Cond) (Cone, bool) {
-	d := double{n: n, conds: len(conds)}
+	d := double{n: n}
 	for i := range n {
 		d.lines = append(d.lines, rows.Unit(n, i))
 	}
@@ -79,7 +80,6 @@ func (d *double) add(c simplex.Cond) bool {
 	} else {
 		d.cut(c.Row)
 	}
-	d.done++
 	return len(d.rays) <= most
 }
 
@@ -102,30 +102,39 @@ func (d *double) bend(i int, c simplex.Cond) {
 	}
 	for k, r := range d.rays {
 		d.rays[k].row = slide(r.row)
-		r.zeros.put(d.done)
+		d.rays[k].zeros.put(d.done)
 	}
 	if !c.Eq {
-		d.rays = append(d.rays, ray{line, firstZeros(d.conds, d.done)})
+		d.rays = append(d.rays, ray{line, firstZeros(d.done)})
 	}
+	d.done++
 }
 
 // cut adds a condition that is 0 on all lines, with this row. It removes the
 // rays below 0, and adds those at which the condition cuts the faces between
-// two adjacent rays. (There are no rays to cut for an equation.)
+// two adjacent rays. Without rays below 0 the condition follows from the others
+// and does not count. (There are no rays to cut for an equation.)
 func (d *double) cut(row rows.Row) {
-	var above, below []int
+	var above, level, below []int
 	var kept []ray
 	for k, r := range d.rays {
-		switch row.Along(r.row).Sign() {
-		case 1:
-			above = append(above, k)
-			kept = append(kept, r)
-		case -1:
+		sign := row.Along(r.row).Sign()
+		if sign < 0 {
 			below = append(below, k)
-		default:
-			r.zeros.put(d.done)
-			kept = append(kept, r)
+			continue
 		}
+		if sign > 0 {
+			above = append(above, k)
+		} else {
+			level = append(level, len(kept))
+		}
+		kept = append(kept, r)
+	}
+	if len(below) == 0 {
+		return
+	}
+	for _, k := range level {
+		kept[k].zeros.put(d.done)
 	}
 	for _, i := range above {
 		for _, k := range below {
@@ -135,6 +144,7 @@ func (d *double) cut(row rows.Row) {
 		}
 	}
 	d.rays = kept
+	d.done++
 }
 
 // adjacent reports whether the sums of rays i and k are a face of the cone: no

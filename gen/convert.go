@@ -8,14 +8,13 @@ import (
 	"floodmark/frac"
 	"floodmark/num"
 	"floodmark/rows"
-	"floodmark/whole"
 )
 
 // coneOf returns the cone of valid generators: a ray for each point and each
 // ray, in this order, and a line for each line.
 func coneOf(g api.Gens) cone.Cone {
 	direction := func(d []int) rows.Row { return rows.Of(api.Form{Coef: d}) }
-	rays := slices.Concat(converted(g.Points, pointRow), converted(g.Rays, direction))
+	rays := slices.Concat(converted(g.Points, cone.Row), converted(g.Rays, direction))
 	return cone.Cone{Rays: rays, Lines: converted(g.Lines, direction)}
 }
 
@@ -28,7 +27,7 @@ func generators(n int, c cone.Cone) (api.Gens, api.Errno) {
 		return d
 	}
 	point := func(r rows.Row) []api.Num {
-		x, _ := frac.Nums(divided(r[:n], r[n]))
+		x, _ := frac.Nums(cone.Point(r))
 		return x
 	}
 	var points, rays []rows.Row
@@ -53,20 +52,6 @@ func converted[S, T any](l []S, convert func(S) T) []T {
 	var out []T
 	for _, x := range l {
 		out = append(out, convert(x))
-	}
-	return out
-}
-
-// pointRow returns a valid point, times its height, followed by the height.
-func pointRow(x []api.Num) rows.Row {
-	tops, low := frac.Common(x)
-	return append(rows.Row(tops), low)
-}
-
-func divided(l []whole.Int, low whole.Int) []frac.Frac {
-	var out []frac.Frac
-	for _, x := range l {
-		out = append(out, frac.New(x, low))
 	}
 	return out
 }

@@ -52,14 +52,6 @@ func (l variables) of(r rows.Row) rows.Row {
 	return append(out, r.Add())
 }
 
-func (l variables) ofRows(list []rows.Row) []rows.Row {
-	var out []rows.Row
-	for _, r := range list {
-		out = append(out, l.of(r))
-	}
-	return out
-}
-
 func (l variables) ofConds(list []simplex.Cond) []simplex.Cond {
 	var out []simplex.Cond
 	for _, c := range list {

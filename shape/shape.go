@@ -103,6 +103,18 @@ func (s *Shape) Rank() int { return s.n - len(s.equations.Leading()) }
 // Equations returns the equations in echelon form.
 func (s *Shape) Equations() []rows.Row { return s.equations.Rows() }
 
+// Conds returns the conditions of the polyhedron that are needed.
+func (s *Shape) Conds() []simplex.Cond {
+	var out []simplex.Cond
+	for _, r := range s.Equations() {
+		out = append(out, simplex.Cond{Row: r, Eq: true})
+	}
+	for _, r := range s.Needed() {
+		out = append(out, simplex.Cond{Row: r})
+	}
+	return out
+}
+
 // Inner returns the inner point.
 func (s *Shape) Inner() []frac.Frac { return s.inner }
 

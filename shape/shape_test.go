@@ -41,6 +41,18 @@ func TestCanon(t *testing.T) {
 	}
 }
 
+func TestConds(t *testing.T) {
+	s, is := Of(2, []simplex.Cond{least(1, 1, -2), least(-2, -2, 4), least(1, 0, 0), least(0, -1, 3)})
+	want := []simplex.Cond{{Row: row(1, 1, -2), Eq: true}, least(0, -1, 2)}
+	if l := s.Conds(); !is || !reflect.DeepEqual(l, want) {
+		t.Errorf("%v, %t", l, is)
+	}
+	s, is = Of(2, nil)
+	if l := s.Conds(); !is || len(l) != 0 {
+		t.Errorf("%v, %t", l, is)
+	}
+}
+
 // One variable more than a polyhedron may have: the cones of polyhedra do.
 func TestOf(t *testing.T) {
 	const n = api.MaxDim + 1

@@ -159,6 +159,26 @@ func TestOf(t *testing.T) {
 	}
 }
 
+func TestOfAll(t *testing.T) {
+	plane, space, bad := api.Poly{Dim: 2, Conds: []api.Cond{{Form: api.Form{Coef: []int{1, 2}, Add: 3}}}}, api.Poly{Dim: 3}, api.Poly{Dim: -1}
+	for _, c := range []struct {
+		l []api.Poly
+		e api.Errno
+	}{
+		{nil, api.OK}, {[]api.Poly{plane, plane}, api.OK}, {[]api.Poly{plane, plane, space}, api.ErrDim}, {[]api.Poly{plane, space, bad}, api.ErrArg}, {[]api.Poly{bad}, api.ErrArg},
+	} {
+		out, e := OfAll(c.l...)
+		if e != c.e || e == api.OK && len(out) != len(c.l) || e != api.OK && out != nil {
+			t.Errorf("OfAll(%v): %v, %d", c.l, out, e)
+		}
+		for _, l := range out {
+			if len(l) != 1 || !l[0].Row.Equal(row(1, 2, 3)) {
+				t.Errorf("OfAll(%v): %v", c.l, l)
+			}
+		}
+	}
+}
+
 // The point of an edge without end is the one at which the row is -1.
 func TestBeyond(t *testing.T) {
 	table := New(2, []Cond{least(3, -1, 0), least(0, 1, -2)})

@@ -32,6 +32,27 @@ func Of(p api.Poly) ([]Cond, bool) {
 	return out, true
 }
 
+// OfAll returns the conditions of each polyhedron. It refuses those that are
+// not valid, and then those with another number of variables than the first.
+func OfAll(l ...api.Poly) ([][]Cond, api.Errno) {
+	out := make([][]Cond, 0, len(l))
+	e := api.OK
+	for _, p := range l {
+		conds, valid := Of(p)
+		if !valid {
+			return nil, api.ErrArg
+		}
+		if p.Dim != l[0].Dim {
+			e = api.ErrDim
+		}
+		out = append(out, conds)
+	}
+	if e != api.OK {
+		return nil, e
+	}
+	return out, api.OK
+}
+
 // Table describes a corner of the conditions and the edges that meet there:
 // each point is the sum of the corner and of the columns, times one number for
 // each column, all over low. The number of a column is the value of the
