@@ -77,14 +77,22 @@ func Nums(l []Frac) ([]api.Num, bool) {
 // Common returns the tops of valid numbers over their least common
 // denominator, and that denominator.
 func Common(l []api.Num) ([]whole.Int, whole.Int) {
+	fractions := make([]Frac, len(l))
+	for i, a := range l {
+		fractions[i] = Of(a)
+	}
+	return Tops(fractions)
+}
+
+// Tops is Common for fractions.
+func Tops(l []Frac) ([]whole.Int, whole.Int) {
 	low := whole.Of(1)
 	for _, a := range l {
-		x := whole.Of(a.Low)
-		low = low.Quo(low.Gcd(x)).Times(x)
+		low = low.Quo(low.Gcd(a.low)).Times(a.low)
 	}
 	tops := make([]whole.Int, len(l))
 	for i, a := range l {
-		tops[i] = whole.Of(a.Top).Times(low.Quo(whole.Of(a.Low)))
+		tops[i] = a.top.Times(low.Quo(a.low))
 	}
 	return tops, low
 }

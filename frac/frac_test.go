@@ -91,3 +91,15 @@ func TestCommon(t *testing.T) {
 		t.Errorf("%v, %v", tops, low)
 	}
 }
+
+func TestTops(t *testing.T) {
+	long := of(1, api.MaxNum).Times(of(1, 3))
+	tops, low := Tops([]Frac{of(1, 2), long, of(-1, 3)})
+	want := whole.Of(api.MaxNum).Times(whole.Of(3))
+	if !low.Equal(want) || !tops[0].Plus(tops[0]).Equal(want) || !tops[1].Equal(whole.Of(1)) || !tops[2].Equal(whole.Of(-api.MaxNum)) {
+		t.Errorf("%v, %v", tops, low)
+	}
+	if tops, low := Tops(nil); len(tops) != 0 || !low.Equal(whole.Of(1)) {
+		t.Errorf("%v, %v", tops, low)
+	}
+}
